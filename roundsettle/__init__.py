@@ -1,0 +1,1 @@
+"""Tournaments round by round, with papers from which the answers can be seen."""

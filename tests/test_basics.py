@@ -1,0 +1,130 @@
+"""[2], [4] and the interface: arguments, their names, where things are defined, sizes."""
+
+import ast
+import copy
+import inspect
+import unittest
+from pathlib import Path
+
+import roundsettle
+from roundsettle import errors, pairing, tours
+from tests.helper import any_values, drawn_tours, tour_of
+
+FOLDER = Path(roundsettle.__file__).parent
+INTERFACE = {
+    tours: {
+        "Tour": ["many", "bye", "barred", "stays", "rounds"],
+        "points": ["tour"], "weights": ["tour"], "order": ["tour"],
+    },
+    pairing: {
+        "may_meet": ["tour"], "may_rest": ["tour"], "is_full_round": ["tour", "value"],
+        "full_round": ["tour"], "bar": ["tour"], "bar_holds": ["tour", "value"],
+    },
+}
+
+
+def told(call, *args):
+    """What a call returns, or the word of its Undefined."""
+    try:
+        return call(*args)
+    except errors.Undefined as error:
+        return [error.what]
+
+
+class InterfaceTest(unittest.TestCase):
+    def test_names_of_parameters(self):
+        for module, names in INTERFACE.items():
+            for name, parameters in names.items():
+                found = list(inspect.signature(getattr(module, name)).parameters)
+                self.assertEqual(found, parameters)
+
+    def test_defined_where_they_are_listed(self):
+        for module, names in INTERFACE.items():
+            tree = ast.parse(Path(module.__file__).read_text())
+            found = [node.name for node in tree.body if isinstance(node, (ast.FunctionDef, ast.ClassDef))]
+            for name in names:
+                self.assertIn(name, found)
+
+    def test_attributes_are_set_when_a_tour_is_made(self):
+        self.assertEqual(sorted(vars(tour_of(2))), ["barred", "bye", "many", "rounds", "stays"])
+
+
+class NothingChangesTest(unittest.TestCase):
+    def test_calls_change_no_argument_and_are_repeated_alike(self):
+        one_argument = [tours.points, tours.weights, tours.order, pairing.may_meet, pairing.may_rest,
+                        pairing.full_round, pairing.bar]
+        for tour in drawn_tours(8, 100):
+            twin = copy.deepcopy(tour)
+            first = [told(call, tour) for call in one_argument]
+            self.assertEqual([told(call, tour) for call in one_argument], first)
+            self.assertEqual([told(call, twin) for call in one_argument], first)
+            self.assertEqual(vars(tour), vars(twin))
+
+    def test_values_that_are_looked_at_do_not_change(self):
+        tour = tour_of(4)
+        for value in any_values():
+            before = copy.deepcopy(value)
+            pairing.is_full_round(tour, value)
+            pairing.bar_holds(tour, value)
+            if not isinstance(value, ValueError):
+                self.assertEqual(value, before)
+        self.assertEqual(tour, tour_of(4))
+
+    def test_a_refused_list_is_left_alone(self):
+        value = [(0, 1)]
+        with self.assertRaises(errors.InvalidPairs) as caught:
+            tour_of(2, barred=value)
+        self.assertEqual(value, [(0, 1)])
+        value.append(3)
+        self.assertIs(caught.exception.value, value)
+
+    def test_later_changes_have_no_effect(self):
+        """Nothing that can change is taken, not even deep within."""
+        stay = [0, 12]
+        for told_stays in ([stay, stay], (stay, stay), (stay, (0, 12))):
+            with self.assertRaises(errors.InvalidStays):
+                tour_of(2, stays=told_stays)
+
+
+class FormTest(unittest.TestCase):
+    """Some of the rules for the code that are easily broken unseen."""
+
+    def files(self):
+        return sorted(FOLDER.rglob("*.py"))
+
+    def test_sizes_and_characters(self):
+        for path in self.files():
+            text = path.read_text()
+            lines = text.split("\n")
+            self.assertLess(len(lines), 400, path)
+            self.assertLessEqual(max(len(line) for line in lines), 120, path)
+            self.assertEqual([c for c in text if not (" " <= c <= "~" or c == "\n")], [], path)
+            for node in ast.walk(ast.parse(text)):
+                if isinstance(node, ast.FunctionDef):
+                    self.assertLessEqual(node.end_lineno - node.lineno + 1, 40, (path, node.name))
+
+    def test_imports(self):
+        library = {"heapq", "math", "itertools", "collections"}
+        for path in self.files():
+            for node in ast.walk(ast.parse(path.read_text())):
+                self.assertNotIsInstance(node, ast.Import, path)
+                if isinstance(node, ast.ImportFrom):
+                    own = node.module.startswith("roundsettle.")
+                    self.assertTrue(own or node.module in library, (path, node.module))
+                    self.assertEqual([name for name in node.names if name.asname], [], path)
+
+    def test_only_files_of_the_package(self):
+        others = [path for path in FOLDER.rglob("*") if path.suffix != ".py" and "__pycache__" not in str(path)]
+        self.assertEqual(others, [])
+
+    def test_no_generator_and_no_float(self):
+        banned = (ast.GeneratorExp, ast.Yield, ast.Global, ast.AsyncFunctionDef, ast.Div)
+        for path in self.files():
+            for node in ast.walk(ast.parse(path.read_text())):
+                self.assertNotIsInstance(node, banned, path)
+                if isinstance(node, ast.Constant):
+                    self.assertNotIsInstance(node.value, (float, complex), path)
+
+
+if __name__ == "__main__":
+    unittest.main()
