@@ -43,6 +43,12 @@ def are_numbers(value, most):
     return is_ascending(value)
 
 
+def are_apart(pairs):
+    """Whether no player is in two of the pairs."""
+    seated = [player for pair in pairs for player in pair]
+    return len(set(seated)) == len(seated)
+
+
 def plain(value):
     """The same integer, or tuple of integers and such tuples, in Python's own classes."""
     if isinstance(value, tuple):

@@ -7,18 +7,27 @@ from roundsettle.kinds import are_numbers, are_pairs, plain
 from roundsettle.tours import met_pairs, players_there, resting
 
 
+def pairs_in(tour, r):
+    """The pairs of those who are there in round r that are not barred and meet in no round."""
+    gone = met_pairs(tour) + list(tour.barred)
+    here = players_there(tour, r)
+    return tuple([(a, b) for a in here for b in here if a < b and (a, b) not in gone])
+
+
+def resters_in(tour, r):
+    """Those who are there in round r and rest in none of the rounds."""
+    rested = [player for played in range(len(tour.rounds)) for player in resting(tour, played)]
+    return tuple([player for player in players_there(tour, r) if player not in rested])
+
+
 def may_meet(tour):
     """The pairs that may meet in the next round, ascending."""
-    gone = met_pairs(tour) + list(tour.barred)
-    here = players_there(tour, len(tour.rounds))
-    return tuple([(a, b) for a in here for b in here if a < b and (a, b) not in gone])
+    return pairs_in(tour, len(tour.rounds))
 
 
 def may_rest(tour):
     """The players that may rest in the next round, ascending."""
-    rested = [player for r in range(len(tour.rounds)) for player in resting(tour, r)]
-    here = players_there(tour, len(tour.rounds))
-    return tuple([player for player in here if player not in rested])
+    return resters_in(tour, len(tour.rounds))
 
 
 def full_rounds(here, pairs, resters):

@@ -2,7 +2,9 @@
 
 import random
 from collections import namedtuple
+from functools import lru_cache
 from itertools import chain, combinations, product
+from types import SimpleNamespace
 
 from roundsettle.errors import RoundError
 from roundsettle.tours import Tour
@@ -80,9 +82,37 @@ def drawn_tours(seed, number):
     return [drawn_tour(draw) for _ in range(number)]
 
 
-def here_next(tour):
-    """Who is there in the next round."""
-    r = len(tour.rounds)
+def tours_with_open(seed, open_games, number):
+    """So many drawn tours with just so many open games."""
+    draw = random.Random(seed)
+    found = []
+    while len(found) < number:
+        tour = drawn_tour(draw, draw.choice([(-1,), (-1, 0, 1, 2), (-1, -1, -1, 0, 2)]))
+        if sum(1 for games in tour.rounds for game in games if game[2] == -1) == open_games:
+            found.append(tour)
+    return found
+
+
+def later(tour, by):
+    """The tour with so many rounds ahead of all others in which nobody is there."""
+    stays = tuple((min(12, first + by), min(12, last + by)) for first, last in tour.stays)
+    return Tour(tour.many, tour.bye, tour.barred, stays, ((),) * by + tour.rounds)
+
+
+def in_place(value, at, new):
+    """The tuple with something new at this place."""
+    return value[:at] + (new,) + value[at + 1:]
+
+
+def subsets(parts):
+    """All sets of these parts, as tuples."""
+    parts = list(parts)
+    return list(chain(*[combinations(parts, size) for size in range(len(parts) + 1)]))
+
+
+def here_next(tour, behind=0):
+    """Who is there in the next round, or so many rounds behind it."""
+    r = len(tour.rounds) + behind
     return [x for x in range(tour.many) if tour.stays[x][0] <= r and r < tour.stays[x][1]]
 
 
@@ -108,17 +138,159 @@ def slow_may_rest(tour):
     return tuple(x for x in here_next(tour) if slow_rests(tour, x) == 0)
 
 
-def slow_full_rounds(tour):
-    """All full rounds, sorted: every set of pairs that may meet is looked at."""
-    here = here_next(tour)
-    resters = slow_may_rest(tour)
+def slow_rounds_of(here, pairs, resters):
+    """All full rounds of those who are here, sorted: every set of such pairs is looked at."""
     found = []
-    for pairs in combinations(slow_may_meet(tour), len(here) // 2):
-        seated = [x for pair in pairs for x in pair]
+    for chosen in combinations(pairs, len(here) // 2):
+        seated = [x for pair in chosen for x in pair]
         left = [x for x in here if x not in seated]
         if len(set(seated)) == len(seated) and all(x in resters for x in left):
-            found.append(pairs)
+            found.append(chosen)
     return sorted(found)
+
+
+def slow_full_rounds(tour):
+    """All full rounds, sorted."""
+    return slow_rounds_of(here_next(tour), slow_may_meet(tour), slow_may_rest(tour))
+
+
+def with_rounds(tour, rounds):
+    """The tour with these rounds of open games behind it, also where a Tour refuses them."""
+    games = tuple(tuple((a, b, -1) for a, b in pairs) for pairs in rounds)
+    return SimpleNamespace(
+        many=tour.many, bye=tour.bye, barred=tour.barred, stays=tour.stays, rounds=tour.rounds + games)
+
+
+def slow_further(tour, k, ahead=()):
+    """The first tuple of k further rounds, or None: they are tried in order."""
+    if len(ahead) == k:
+        return ahead
+    for pairs in slow_full_rounds(with_rounds(tour, ahead)):
+        found = slow_further(tour, k, ahead + (pairs,))
+        if found is not None:
+            return found
+    return None
+
+
+def slow_led_to(tour, t, stand):
+    """All stands to which full rounds from a stand for t lead, sorted."""
+    here = here_next(tour, t)
+    gone = [*tour.barred, *stand[0], *[(a, b) for games in tour.rounds for a, b, _ in games]]
+    pairs = [pair for pair in combinations(here, 2) if pair not in gone]
+    resters = [x for x in here if slow_rests(tour, x) == 0 and x not in stand[1]]
+    found = set()
+    for chosen in slow_rounds_of(here, pairs, resters):
+        rest = set(here) - set(chain(*chosen))
+        found.add((tuple(sorted({*stand[0], *chosen})), tuple(sorted({*stand[1], *rest}))))
+    return sorted(found)
+
+
+def slow_stands(tour, k):
+    """For each t from 0 to k the stands that can be come to, sorted."""
+    levels = [(((), ()),)]
+    for t in range(k):
+        levels.append(tuple(sorted({new for old in levels[t] for new in slow_led_to(tour, t, old)})))
+    return tuple(levels)
+
+
+def slow_are_walls(tour, k, value):
+    """Whether value is walls for k; value is a tuple of integers and such tuples."""
+    if len(value) != k + 1 or ((), ()) not in value[0] or value[k] != ():
+        return False
+    pairs = list(combinations(range(tour.many), 2))
+    for stands in value:
+        if list(stands) != sorted(set(stands)):
+            return False
+        for met, rested in stands:
+            if list(met) != sorted(set(met) & set(pairs)):
+                return False
+            if list(rested) != sorted(set(rested) & set(range(tour.many))):
+                return False
+    return all(new in value[t + 1] for t in range(k) for old in value[t] for new in slow_led_to(tour, t, old))
+
+
+def apart(pairs):
+    """Whether no player is in two of the pairs."""
+    seated = list(chain(*pairs))
+    return len(seated) == len(set(seated))
+
+
+@lru_cache(maxsize=None)
+def slow_are_enough(pairs, k):
+    """Whether the pairs can be put into k rounds: every round with the first pair is tried."""
+    if not pairs or k == 0:
+        return not pairs
+    for size in range(3):
+        for others in combinations(pairs[1:], size):
+            chosen = (pairs[0],) + others
+            left = tuple(pair for pair in pairs if pair not in chosen)
+            if apart(chosen) and slow_are_enough(left, k - 1):
+                return True
+    return False
+
+
+def slow_rounds_to_meet(tour):
+    """How many meeting rounds are needed: one number is tried behind the other."""
+    pairs = slow_may_meet(tour)
+    return [k for k in range(len(pairs) + 1) if slow_are_enough(pairs, k)][0]
+
+
+def slow_is_crowd(tour, k, players):
+    """Whether an ascending tuple of players is a crowd for k."""
+    pairs = slow_may_meet(tour)
+    m = len(players)
+    if k < 1 or m % 2 == 0:
+        return False
+    if m == 1:
+        return sum(1 for a, b in pairs if a == players[0] or b == players[0]) >= k
+    return 2 * sum(1 for pair in combinations(players, 2) if pair in pairs) > (k - 1) * (m - 1)
+
+
+def slow_open_games(tour):
+    return tuple(
+        (r, a, b) for r in range(len(tour.rounds)) for a, b in combinations(range(tour.many), 2)
+        if (a, b, -1) in tour.rounds[r]
+    )
+
+
+def all_outcomes(tour):
+    """All outcomes, sorted."""
+    return sorted(product((2, 0, 1), repeat=len(slow_open_games(tour))))
+
+
+def come_out(tour, outcomes):
+    """The tour with its open games come out so."""
+    told = dict(zip(slow_open_games(tour), outcomes))
+    rounds = tuple(
+        tuple((a, b, told.get((r, a, b), won)) for a, b, won in games)
+        for r, games in enumerate(tour.rounds)
+    )
+    return Tour(tour.many, tour.bye, tour.barred, tour.stays, rounds)
+
+
+def slow_points(tour):
+    """The points of all players, told one by one."""
+    games = [game for games in tour.rounds for game in games if game[2] != -1]
+    return tuple(
+        sum(won for a, b, won in games if a == x) + sum(2 - won for a, b, won in games if b == x)
+        + tour.bye * slow_rests(tour, x)
+        for x in range(tour.many)
+    )
+
+
+def slow_ends(tour):
+    """A dict of the final points of all outcomes, the outcomes sorted."""
+    return {outcomes: slow_points(come_out(tour, outcomes)) for outcomes in all_outcomes(tour)}
+
+
+def slow_bars_target(tour, target, word, players):
+    """Whether a set of players has too much ("much") or too little ("little") in the target."""
+    have = sum(target[x] for x in players)
+    now = sum(slow_points(tour)[x] for x in players)
+    members = [len({a, b} & set(players)) for r, a, b in slow_open_games(tour)]
+    if word == "much":
+        return have > now + 2 * (members.count(1) + members.count(2))
+    return have < now + 2 * members.count(2)
 
 
 def slow_points_of_round(tour):

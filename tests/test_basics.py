@@ -7,8 +7,8 @@ import unittest
 from pathlib import Path
 
 import roundsettle
-from roundsettle import errors, pairing, tours
-from tests.helper import any_values, drawn_tours, tour_of
+from roundsettle import errors, finals, further, meetings, pairing, tours
+from tests.helper import any_values, drawn_tours, slow_open_games, tour_of, tours_with_open
 
 FOLDER = Path(roundsettle.__file__).parent
 INTERFACE = {
@@ -20,6 +20,17 @@ INTERFACE = {
         "may_meet": ["tour"], "may_rest": ["tour"], "is_full_round": ["tour", "value"],
         "full_round": ["tour"], "bar": ["tour"], "bar_holds": ["tour", "value"],
     },
+    further: {
+        "further": ["tour", "k"], "walls": ["tour", "k"], "walls_hold": ["tour", "k", "value"],
+    },
+    meetings: {
+        "meeting": ["tour"], "rounds_to_meet": ["tour"], "is_meeting": ["tour", "value"],
+        "crowd": ["tour"], "crowd_holds": ["tour", "k", "value"],
+    },
+    finals: {
+        "open_games": ["tour"], "final": ["tour", "outcomes"], "reaches": ["tour", "target"],
+        "reach_paper": ["tour", "target"], "reach_holds": ["tour", "target", "value"],
+    },
 }
 
 
@@ -29,6 +40,40 @@ def told(call, *args):
         return call(*args)
     except errors.Undefined as error:
         return [error.what]
+
+
+def told_by_name(call, names):
+    """The same with the arguments by the names of the parameters, the last one first."""
+    try:
+        return call(**dict(reversed(list(names.items()))))
+    except errors.Undefined as error:
+        return [error.what]
+
+
+def refused(call, *args):
+    """Whether a call raises an error of the package."""
+    try:
+        call(*args)
+    except errors.RoundError:
+        return True
+    return False
+
+
+def calls_of(tour):
+    """Calls of all functions with this tour, each with its other arguments."""
+    found = [(call,) for call in (
+        tours.points, tours.weights, tours.order, pairing.may_meet, pairing.may_rest, pairing.full_round,
+        pairing.bar, meetings.meeting, meetings.rounds_to_meet, meetings.crowd, finals.open_games,
+    )]
+    found += [(pairing.is_full_round, ((0, 1),)), (pairing.bar_holds, (0,)), (meetings.is_meeting, (((0, 1),),))]
+    found += [(call, k) for call in (further.further, further.walls) for k in range(5)]
+    found += [(further.walls_hold, 1, ((((), ()),), ())), (meetings.crowd_holds, 1, (0,))]
+    found += [(finals.final, (won,) * len(slow_open_games(tour))) for won in range(3)]
+    for goal in range(0, 5):
+        target = (goal,) * tour.many
+        found += [(finals.reaches, target), (finals.reach_paper, target)]
+        found += [(finals.reach_holds, target, (word, (0,))) for word in ("much", "little")]
+    return found
 
 
 class InterfaceTest(unittest.TestCase):
@@ -51,21 +96,27 @@ class InterfaceTest(unittest.TestCase):
 
 class NothingChangesTest(unittest.TestCase):
     def test_calls_change_no_argument_and_are_repeated_alike(self):
-        one_argument = [tours.points, tours.weights, tours.order, pairing.may_meet, pairing.may_rest,
-                        pairing.full_round, pairing.bar]
-        for tour in drawn_tours(8, 100):
+        for tour in drawn_tours(8, 100) + tours_with_open(9, 7, 3):
             twin = copy.deepcopy(tour)
-            first = [told(call, tour) for call in one_argument]
-            self.assertEqual([told(call, tour) for call in one_argument], first)
-            self.assertEqual([told(call, twin) for call in one_argument], first)
+            first = [told(call, tour, *more) for call, *more in calls_of(tour)]
+            self.assertEqual([told(call, tour, *more) for call, *more in calls_of(tour)], first)
+            self.assertEqual([told(call, twin, *more) for call, *more in calls_of(twin)], first)
             self.assertEqual(vars(tour), vars(twin))
+            for call, *more in calls_of(tour):
+                names = inspect.signature(call).parameters
+                self.assertEqual(told(call, tour, *more), told_by_name(call, dict(zip(names, [tour, *more]))))
 
     def test_values_that_are_looked_at_do_not_change(self):
         tour = tour_of(4)
         for value in any_values():
             before = copy.deepcopy(value)
-            pairing.is_full_round(tour, value)
-            pairing.bar_holds(tour, value)
+            for call in (pairing.is_full_round, pairing.bar_holds, meetings.is_meeting):
+                call(tour, value)
+            for call in (further.walls_hold, meetings.crowd_holds, finals.reach_holds):
+                call(tour, 1, value)
+                call(tour, value, value)
+            for call in (further.further, further.walls, finals.final, finals.reaches, finals.reach_paper):
+                refused(call, tour, value)
             if not isinstance(value, ValueError):
                 self.assertEqual(value, before)
         self.assertEqual(tour, tour_of(4))
