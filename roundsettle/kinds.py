@@ -49,6 +49,11 @@ def are_apart(pairs):
     return len(set(seated)) == len(seated)
 
 
+def are_seated(value, many):
+    """Whether value is an ascending tuple of pairs of players, not (), no player in two of them."""
+    return are_pairs(value, many) and len(value) > 0 and are_apart(value)
+
+
 def plain(value):
     """The same integer, or tuple of integers and such tuples, in Python's own classes."""
     if isinstance(value, tuple):

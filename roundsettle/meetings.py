@@ -3,7 +3,7 @@
 from itertools import combinations
 
 from roundsettle.errors import Undefined
-from roundsettle.kinds import are_apart, are_numbers, are_pairs, is_integer, plain
+from roundsettle.kinds import are_apart, are_numbers, are_seated, is_integer, plain
 from roundsettle.pairing import may_meet
 
 
@@ -40,14 +40,9 @@ def rounds_to_meet(tour):
     return len(meeting(tour))
 
 
-def _are_seated(value, many):
-    """Whether value is an ascending tuple of pairs of players, not (), none of them in two."""
-    return are_pairs(value, many) and len(value) > 0 and are_apart(value)
-
-
 def is_meeting(tour, value):
     """Whether value, any value, is a tuple of meeting rounds, as few as can be or not."""
-    if not isinstance(value, tuple) or not all([_are_seated(pairs, tour.many) for pairs in value]):
+    if not isinstance(value, tuple) or not all([are_seated(pairs, tour.many) for pairs in value]):
         return False
     pairs = sorted([pair for games in plain(value) for pair in games])
     return tuple(pairs) == may_meet(tour)

@@ -3,7 +3,7 @@
 import random
 from collections import namedtuple
 from functools import lru_cache
-from itertools import chain, combinations, product
+from itertools import chain, combinations, permutations, product
 from types import SimpleNamespace
 
 from roundsettle.errors import RoundError
@@ -291,6 +291,118 @@ def slow_bars_target(tour, target, word, players):
     if word == "much":
         return have > now + 2 * (members.count(1) + members.count(2))
     return have < now + 2 * members.count(2)
+
+
+def slow_is_first(got, player, alone):
+    """Whether the player is first (alone) with these points of all."""
+    if alone:
+        return [x for x in range(len(got)) if got[x] >= got[player]] == [player]
+    return got[player] == max(got)
+
+
+def slow_most(tour, player):
+    """The most of a player: its points now and 2 for each of its open games."""
+    return slow_points(tour)[player] + 2 * sum(1 for r, a, b in slow_open_games(tour) if player in (a, b))
+
+
+def slow_are_bound(tour, player, alone, others):
+    """Whether others, an ascending tuple of players, are bound to pass the player."""
+    if not others or player in others:
+        return False
+    inner = sum(1 for r, a, b in slow_open_games(tour) if a in others and b in others)
+    together = sum(slow_points(tour)[x] for x in others) + 2 * inner
+    return together > len(others) * (slow_most(tour, player) - alone)
+
+
+def slow_rank(got, player):
+    return 1 + sum(1 for had in got if had > got[player])
+
+
+def slow_agreeing(many, pairs):
+    """All orders that have the better one of each pair ahead, sorted."""
+    return sorted(
+        order for order in permutations(range(many)) if not any((b, a) in pairs for a, b in combinations(order, 2)))
+
+
+def slow_closure(pairs):
+    """The pairs and all that follow from them, sorted: they are joined until nothing is new."""
+    told = set(pairs)
+    while True:
+        new = {(a, d) for a, b in told for c, d in told if b == c} - told
+        if not new:
+            return tuple(sorted(told))
+        told |= new
+
+
+def slow_all_known(many):
+    """All known tuples of so many players, sorted: every set of pairs is looked at."""
+    pairs = list(permutations(range(many), 2))
+    found = []
+    for some in subsets(pairs):
+        if len(some) <= many * (many - 1) // 2 and slow_closure(some) == some:
+            if not any(a == b for a, b in some):
+                found.append(some)
+    return sorted(found)
+
+
+def slow_bouts(many):
+    """All bout rounds, sorted."""
+    return sorted(some for some in subsets(combinations(range(many), 2)) if some and apart(some))
+
+
+@lru_cache(maxsize=None)
+def slow_results(many, known, bouts):
+    """All pairs (winners, known then), sorted: every row of winners is tried."""
+    found = []
+    for winners in product(*bouts):
+        told = [(x, a + b - x) for (a, b), x in zip(bouts, winners)]
+        then = slow_closure(known + tuple(told))
+        if not any(a == b for a, b in then):
+            found.append((winners, then))
+    return tuple(sorted(found))
+
+
+@lru_cache(maxsize=None)
+def slow_settled(many, known, rank):
+    return len({order[rank - 1] for order in slow_agreeing(many, known)}) == 1
+
+
+@lru_cache(maxsize=None)
+def slow_is_enough(many, known, rank, k):
+    """Whether k bout rounds settle the rank whatever comes out: each round is tried."""
+    if slow_settled(many, known, rank):
+        return True
+    return k > 0 and any(
+        all(slow_is_enough(many, then, rank, k - 1) for _, then in slow_results(many, known, bouts))
+        for bouts in slow_bouts(many)
+    )
+
+
+@lru_cache(maxsize=None)
+def slow_least(many, known, rank):
+    """The least number of bout rounds: one number is tried behind the other."""
+    k = 0
+    while not slow_is_enough(many, known, rank, k):
+        k += 1
+    return k
+
+
+def slow_is_table(many, rank, rows):
+    """Whether rows, pairs of something known and a number, are a table."""
+    if list(rows) != sorted(set(rows)) or len({known for known, _ in rows}) < len(rows):
+        return False
+    told = dict(rows)
+    for known, number in rows:
+        if (number == 0) != slow_settled(many, known, rank):
+            return False
+        if number == 0:
+            continue
+        leads = [[told.get(then, -9) for _, then in slow_results(many, known, bouts)] for bouts in slow_bouts(many)]
+        if not any(all(0 <= there <= number - 1 for there in lead) for lead in leads):
+            return False
+        if not all(any(there >= number - 1 for there in lead) for lead in leads):
+            return False
+    return True
 
 
 def slow_points_of_round(tour):

@@ -2,12 +2,13 @@
 
 import ast
 import copy
+import functools
 import inspect
 import unittest
 from pathlib import Path
 
 import roundsettle
-from roundsettle import errors, finals, further, meetings, pairing, tours
+from roundsettle import errors, finals, firsts, further, known, meetings, pairing, settling, tours
 from tests.helper import any_values, drawn_tours, slow_open_games, tour_of, tours_with_open
 
 FOLDER = Path(roundsettle.__file__).parent
@@ -31,6 +32,19 @@ INTERFACE = {
         "open_games": ["tour"], "final": ["tour", "outcomes"], "reaches": ["tour", "target"],
         "reach_paper": ["tour", "target"], "reach_holds": ["tour", "target", "value"],
     },
+    firsts: {
+        "first_outcomes": ["tour", "player", "alone"], "passing": ["tour", "player", "alone"],
+        "passing_holds": ["tour", "player", "alone", "value"], "sure_first": ["tour", "player", "alone"],
+        "other_outcomes": ["tour", "player", "alone"], "ranks": ["tour", "player"],
+    },
+    known: {
+        "is_known": ["many", "value"], "known_from": ["many", "pairs"], "settled": ["many", "known", "rank"],
+        "results": ["many", "known", "bouts"],
+    },
+    settling: {
+        "least_rounds": ["many", "known", "rank"], "best_round": ["many", "known", "rank"],
+        "settle_table": ["many", "known", "rank"], "table_holds": ["many", "known", "rank", "number", "value"],
+    },
 }
 
 
@@ -40,14 +54,13 @@ def told(call, *args):
         return call(*args)
     except errors.Undefined as error:
         return [error.what]
+    except errors.InvalidRound as error:
+        return [error.value]
 
 
 def told_by_name(call, names):
     """The same with the arguments by the names of the parameters, the last one first."""
-    try:
-        return call(**dict(reversed(list(names.items()))))
-    except errors.Undefined as error:
-        return [error.what]
+    return told(functools.partial(call, **dict(reversed(list(names.items())))))
 
 
 def refused(call, *args):
@@ -73,7 +86,27 @@ def calls_of(tour):
         target = (goal,) * tour.many
         found += [(finals.reaches, target), (finals.reach_paper, target)]
         found += [(finals.reach_holds, target, (word, (0,))) for word in ("much", "little")]
+    for player in range(tour.many):
+        found.append((firsts.ranks, player))
+        for alone in (False, True):
+            found += [(call, player, alone) for call in (
+                firsts.first_outcomes, firsts.passing, firsts.sure_first, firsts.other_outcomes)]
+            found.append((firsts.passing_holds, player, alone, (0,)))
     return found
+
+
+def calls_of_orders():
+    """Calls of all functions of hidden orders, each with its arguments."""
+    found = []
+    for many in range(1, 5):
+        for told in ((), ((0, 1),), ((0, 1), (2, 3)), ((1, 0), (2, 0), (2, 1))):
+            found += [(known.is_known, many, told), (known.known_from, many, told)]
+            found += [(known.results, many, told, ((0, 1),)), (known.results, many, told, ((0, 2), (1, 3)))]
+            for rank in range(1, many + 1):
+                found += [(call, many, told, rank) for call in (
+                    known.settled, settling.least_rounds, settling.best_round, settling.settle_table)]
+                found += [(settling.table_holds, many, told, rank, number, ((told, 0),)) for number in (0, 1)]
+    return [(call, *args) for call, *args in found if call is known.is_known or known.is_known(args[0], args[1])]
 
 
 class InterfaceTest(unittest.TestCase):
@@ -106,6 +139,14 @@ class NothingChangesTest(unittest.TestCase):
                 names = inspect.signature(call).parameters
                 self.assertEqual(told(call, tour, *more), told_by_name(call, dict(zip(names, [tour, *more]))))
 
+    def test_calls_of_orders_are_repeated_alike(self):
+        first = [told(call, *args) for call, *args in calls_of_orders()]
+        self.assertEqual([told(call, *args) for call, *args in calls_of_orders()], first)
+        self.assertEqual([told(call, *copy.deepcopy(args)) for call, *args in calls_of_orders()], first)
+        for (call, *args), found in zip(calls_of_orders(), first):
+            names = inspect.signature(call).parameters
+            self.assertEqual(told_by_name(call, dict(zip(names, args))), found)
+
     def test_values_that_are_looked_at_do_not_change(self):
         tour = tour_of(4)
         for value in any_values():
@@ -117,6 +158,14 @@ class NothingChangesTest(unittest.TestCase):
                 call(tour, value, value)
             for call in (further.further, further.walls, finals.final, finals.reaches, finals.reach_paper):
                 refused(call, tour, value)
+            firsts.passing_holds(tour, 0, False, value)
+            firsts.passing_holds(tour, value, value, value)
+            refused(firsts.ranks, tour, value)
+            known.is_known(3, value)
+            refused(known.known_from, 3, value)
+            refused(known.results, 3, (), value)
+            settling.table_holds(3, (), 1, value, value)
+            refused(settling.least_rounds, 3, value, 1)
             if not isinstance(value, ValueError):
                 self.assertEqual(value, before)
         self.assertEqual(tour, tour_of(4))
