@@ -63,6 +63,11 @@ def _reaching(tour, target):
     return [outcomes for outcomes, got in ends(tour) if got == goals]
 
 
+def is_reached(tour, target):
+    """Whether some outcomes have these final points; target is one."""
+    return len(_reaching(tour, target)) > 0
+
+
 def reaches(tour, target):
     """The first outcomes that have these final points."""
     if not is_target(tour, target):
@@ -96,7 +101,7 @@ def reach_paper(tour, target):
     """A set of players that has too much or too little in the target: one of the fewest."""
     if not is_target(tour, target):
         raise InvalidTarget(target)
-    if _reaching(tour, target):
+    if is_reached(tour, target):
         raise Undefined("paper")
     goals = plain(target)
     chosen = [some for size in range(1, tour.many + 1) for some in combinations(range(tour.many), size)]

@@ -53,6 +53,23 @@ def further(tour, k):
     return found
 
 
+def has_further(tour, k):
+    """Whether there are k further full rounds; k is a number up to 4."""
+    return _first_rounds(_fields(tour, k), START) is not None
+
+
+def are_further(tour, k, value):
+    """Whether value, any value, is k full rounds, each one of the tour with those ahead of it."""
+    if not is_row(value, k):
+        return False
+    stand = START
+    for field, pairs in zip(_fields(tour, k), value):
+        if not are_pairs(pairs, tour.many) or plain(pairs) not in _rounds_from(field, stand):
+            return False
+        stand = _led_to(field, stand, plain(pairs))
+    return True
+
+
 def _stands(fields):
     """For each field, and behind the last one, the stands that rounds lead to, ascending."""
     levels = [(START,)]

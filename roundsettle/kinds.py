@@ -55,7 +55,20 @@ def are_seated(value, many):
 
 
 def plain(value):
-    """The same integer, or tuple of integers and such tuples, in Python's own classes."""
+    """The same integer or bool, or tuple of these and of such tuples, in Python's own classes."""
     if isinstance(value, tuple):
         return tuple([plain(part) for part in value])
+    if isinstance(value, bool):
+        return value
     return int(value)
+
+
+def is_same(value, told):
+    """Whether value, any value, is the same as told: a string, an integer, a bool or a tuple of such."""
+    if isinstance(told, tuple):
+        return is_row(value, len(told)) and all([is_same(part, told[at]) for at, part in enumerate(value)])
+    if isinstance(told, str):
+        return isinstance(value, str) and value == told
+    if isinstance(told, bool):
+        return isinstance(value, bool) and value == told
+    return is_integer(value) and value == told

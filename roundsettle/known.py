@@ -48,7 +48,7 @@ def known_from(many, pairs):
         raise InvalidNumber(many)
     if not _are_unlike(pairs, many):
         raise InvalidPairs(pairs)
-    found = orders_of(many, plain(pairs))
+    found = orders_of(many, pairs)
     if not found:
         raise Undefined("known")
     return common_known(found)

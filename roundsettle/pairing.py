@@ -55,6 +55,11 @@ def _next_full_rounds(tour):
     return full_rounds(here, may_meet(tour), may_rest(tour))
 
 
+def has_full_round(tour):
+    """Whether there is a full round."""
+    return len(_next_full_rounds(tour)) > 0
+
+
 def is_full_round(tour, value):
     """Whether value, any value, is a full round of the tour."""
     return are_pairs(value, tour.many) and plain(value) in _next_full_rounds(tour)
@@ -106,7 +111,7 @@ def _bars(members, nodes, ties):
 
 def bar(tour):
     """Some points of the next round that show that it is no full one: the fewest."""
-    if _next_full_rounds(tour):
+    if has_full_round(tour):
         raise Undefined("bar")
     nodes = _round_points(tour)
     ties = _ties(tour)

@@ -48,7 +48,7 @@ def least_rounds(many, known, rank):
     """The least number of bout rounds that settle the rank whatever comes out."""
     require_rank(many, known, rank)
     start = plain(known)
-    return _numbers(plain(many), start, rank)[start]
+    return _numbers(many, start, rank)[start]
 
 
 def best_round(many, known, rank):

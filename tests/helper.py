@@ -6,7 +6,7 @@ from functools import lru_cache
 from itertools import chain, combinations, permutations, product
 from types import SimpleNamespace
 
-from roundsettle.errors import RoundError
+from roundsettle.errors import InvalidNumber, InvalidPairs, InvalidPlayer, InvalidRound, RoundError, Undefined
 from roundsettle.tours import Tour
 
 Two = namedtuple("Two", "a b")
@@ -16,6 +16,10 @@ Five = namedtuple("Five", "a b c d e")
 
 class OwnInt(int):
     """An integer of a class of its own."""
+
+
+class OwnStr(str):
+    """A string of a class of its own."""
 
 
 def tour_of(many, rounds=(), bye=0, barred=(), stays=None):
@@ -40,11 +44,36 @@ def any_values():
     ]
 
 
+class OwnTuple(tuple):
+    """A tuple of a class of its own."""
+
+
+def of_own(value):
+    """The same integer, bool, string or tuple of such, of classes of its own where there can be such."""
+    if isinstance(value, tuple):
+        return OwnTuple(of_own(part) for part in value)
+    if isinstance(value, str):
+        return OwnStr(value)
+    return value if isinstance(value, bool) else OwnInt(value)
+
+
 def is_plain(value):
     """Whether value is an integer or a tuple of integers and such tuples, of no class of its own."""
     if type(value) is tuple:
         return all(is_plain(part) for part in value)
     return type(value) is int
+
+
+def is_all_plain(value):
+    """Whether value is an integer, a bool, None, a string or a tuple of these, of no class of its own."""
+    if type(value) is tuple:
+        return all(is_all_plain(part) for part in value)
+    return value is None or type(value) in (int, bool, str)
+
+
+def same_kinds(one, other):
+    """Whether two plain values are equal with bools and integers at the same places."""
+    return repr(one) == repr(other)
 
 
 def drawn_tour(draw, points=(-1, 0, 1, 2)):
@@ -428,6 +457,275 @@ def slow_bars(tour):
     nodes = slow_points_of_round(tour)
     chosen = chain(*[combinations(nodes, size) for size in range(len(nodes) + 1)])
     return [members for members in chosen if slow_is_bar(tour, members)]
+
+
+def beats_of(many, wins):
+    """Beats in which the first one of each of these pairs beats the other one, and else the lesser number does."""
+    rows = [[] for _ in range(many)]
+    for a, b in combinations(range(many), 2):
+        if (b, a) in wins:
+            rows[b].append(a)
+        else:
+            rows[a].append(b)
+    return tuple(tuple(sorted(row)) for row in rows)
+
+
+def all_beats(many):
+    """All beats of so many players."""
+    return [beats_of(many, wins) for wins in subsets((b, a) for a, b in combinations(range(many), 2))]
+
+
+def drawn_beats(draw, many):
+    """Beats by a drawn order with few games turned, in circles, or drawn game by game."""
+    pairs = list(permutations(range(many), 2))
+    kind = draw.choice(["order", "circle", "any"])
+    if kind == "any":
+        return beats_of(many, draw.sample(pairs, draw.randint(0, len(pairs))))
+    place = draw.sample(range(many), many)
+    if kind == "circle":
+        wins = [(a, b) for a, b in pairs if 0 < (place[b] - place[a]) % many <= many // 2]
+        return beats_of(many, wins)
+    wins = [(a, b) for a, b in pairs if place[a] < place[b]]
+    turned = draw.sample(wins, draw.randint(0, min(4, len(wins))))
+    return beats_of(many, [(b, a) if (a, b) in turned else (a, b) for a, b in wins])
+
+
+def slow_winner(beats, draw):
+    """Who wins a knock-out: the winners of both halves meet."""
+    if len(draw) == 1:
+        return draw[0]
+    middle = len(draw) // 2
+    one, other = slow_winner(beats, draw[:middle]), slow_winner(beats, draw[middle:])
+    return one if other in beats[one] else other
+
+
+def slow_winners(beats, players):
+    """Who wins a set by some draw, sorted: both halves are won so, for every way to part the set."""
+    if len(players) == 1:
+        return players
+    if len(players) < 8:
+        return tuple(sorted({slow_winner(beats, draw) for draw in permutations(players)}))
+    found = set()
+    for half in combinations(players, len(players) // 2):
+        other = tuple(x for x in players if x not in half)
+        for x in slow_winners(beats, half):
+            found |= {x for y in slow_winners(beats, other) if y in beats[x]}
+    return tuple(sorted(found))
+
+
+def sets_of(many):
+    """All sets of 2, 4 and 8 of the players, sorted."""
+    return sorted(chain(*[combinations(range(many), size) for size in (2, 4, 8)]))
+
+
+def slow_are_winners(beats, value):
+    """Whether value, a tuple of pairs of tuples of integers, is a winners' table."""
+    if [row[:1] for row in value] != [(players,) for players in sets_of(len(beats))]:
+        return False
+    if any(len(row) != 2 or list(row[1]) != sorted(set(row[1]) & set(row[0])) for row in value):
+        return False
+    told = {players: winners for players, winners in value}
+    told.update({(x,): (x,) for x in range(len(beats))})
+    for players, winners in value:
+        for half in combinations(players, len(players) // 2):
+            other = tuple(x for x in players if x not in half)
+            for x, y in product(told[half], told[other]):
+                if (x if y in beats[x] else y) not in winners:
+                    return False
+    return True
+
+
+DENIALS = {"round": "no round", "further": "not further", "reach": "not reach", "first": "passed", "sure": "open"}
+CLAIM_WORDS = ("meet", *DENIALS, *DENIALS.values())
+
+
+def slow_is_question(tour, value):
+    """Whether a plain value is a question for the tour."""
+    if type(value) is not tuple or not value or type(value[0]) is not str:
+        return False
+    word, *parts = value
+    if word in ("round", "meet"):
+        return parts == []
+    if word == "further":
+        return len(parts) == 1 and type(parts[0]) is int and parts[0] in range(5)
+    if word == "reach":
+        return (
+            len(parts) == 1 and type(parts[0]) is tuple and len(parts[0]) == tour.many
+            and all(type(x) is int and x in range(21) for x in parts[0])
+        )
+    return (
+        word in ("first", "sure") and len(parts) == 2 and type(parts[0]) is int and parts[0] in range(tour.many)
+        and type(parts[1]) is bool
+    )
+
+
+def slow_is_claim(tour, value):
+    """Whether a plain value is a claim for the tour."""
+    if type(value) is not tuple or not value or type(value[0]) is not str:
+        return False
+    if value[0] == "meet":
+        return len(value) == 2 and type(value[1]) is int and value[1] >= 0
+    asked = {**{word: word for word in DENIALS}, **{no: word for word, no in DENIALS.items()}}
+    return value[0] in asked and slow_is_question(tour, (asked[value[0]],) + value[1:])
+
+
+def claims_for(question):
+    """The claims that may answer a question, of the numbers of meeting rounds those up to 7."""
+    if question == ("meet",):
+        return [("meet", k) for k in range(8)]
+    return [question, (DENIALS[question[0]],) + question[1:]]
+
+
+def slow_answer(tour, question, ends):
+    """The true claim; ends are those of slow_ends."""
+    word, *parts = question
+    if word == "meet":
+        return ("meet", slow_rounds_to_meet(tour))
+    if word == "round":
+        so = slow_full_rounds(tour) != []
+    elif word == "further":
+        so = slow_further(tour, parts[0]) is not None
+    elif word == "reach":
+        so = parts[0] in ends.values()
+    elif word == "first":
+        so = any(slow_is_first(got, *parts) for got in ends.values())
+    else:
+        so = all(slow_is_first(got, *parts) for got in ends.values())
+    return question if so else (DENIALS[word],) + question[1:]
+
+
+def slow_is_meeting(tour, value):
+    """Whether value, a tuple of tuples of pairs of integers, is a meeting."""
+    pairs = [pair for games in value for pair in games]
+    return (
+        all(games and list(games) == sorted(set(games)) and apart(games) for games in value)
+        and len(pairs) == len(set(pairs)) and set(pairs) == set(slow_may_meet(tour))
+    )
+
+
+def slow_are_further(tour, k, value):
+    return len(value) == k and all(value[t] in slow_full_rounds(with_rounds(tour, value[:t])) for t in range(k))
+
+
+def slow_is_paper(tour, claim, paper, ends):
+    """Whether a tuple of integers and such tuples is a paper for a claim other than "not reach"."""
+    word, *parts = claim
+    if word == "round":
+        return paper in slow_full_rounds(tour)
+    if word == "no round":
+        return paper in slow_bars(tour)
+    if word == "further":
+        return slow_are_further(tour, parts[0], paper)
+    if word == "not further":
+        return slow_are_walls(tour, parts[0], paper)
+    if word == "meet":
+        rounds, players = paper
+        good = players in subsets(range(tour.many)) and slow_is_crowd(tour, parts[0], players)
+        return slow_is_meeting(tour, rounds) and len(rounds) == parts[0] and (good or (parts[0] == 0 and players == ()))
+    if word == "passed":
+        return paper in subsets(range(tour.many)) and slow_are_bound(tour, *parts, paper)
+    if word == "sure":
+        mosts = tuple(slow_most(tour, x) for x in range(tour.many))
+        return paper == mosts and all(slow_is_first(got, *parts) for got in ends.values())
+    if paper not in ends:
+        return False
+    if word == "reach":
+        return ends[paper] == parts[0]
+    return slow_is_first(ends[paper], *parts) == (word == "first")
+
+
+def slow_holds(tour, claim, paper, ends):
+    """Whether a claim for the tour has this paper, of any form."""
+    if claim[0] == "not reach":
+        if type(paper) is not tuple or len(paper) != 2 or paper[0] not in ("much", "little"):
+            return False
+        good = type(paper[0]) is str and is_plain(paper[1]) and paper[1] in subsets(range(tour.many))[1:]
+        return good and slow_bars_target(tour, claim[1], *paper)
+    if not is_plain(paper) or type(paper) is not tuple:
+        return False
+    try:
+        return bool(slow_is_paper(tour, claim, paper, ends))
+    except (TypeError, ValueError):
+        # Not even of the form that is looked at.
+        return False
+
+
+def changed_ones(value):
+    """All that comes of a nested tuple where one place of it is changed, cut, doubled or of another kind."""
+    if type(value) is tuple:
+        found = [list(value), value[::-1], value + ((),), value + (0,), ((),) + value, value + value, value[:-1], None]
+        for at, part in enumerate(value):
+            found += [value[:at] + value[at + 1:], value[:at] + (part,) + value[at:]]
+            found += [in_place(value, at, other) for other in changed_ones(part)]
+        return [other for other in found if not same_kinds(other, value)]
+    if type(value) is int:
+        return [value + 1, value - 1, None, str(value), (value,), -1] + [bool(value)] * (value in (0, 1))
+    if type(value) is bool:
+        return [not value, int(value), None, str(value), (value,)]
+    return ["much", "little", "", "x" + value, value + " ", None, 0, (value,)]
+
+
+def drawn_questions(draw, tour, ends, targets=3):
+    """Questions of all six kinds: all but those with a target, of which there are so many."""
+    found = [("round",), ("meet",)] + [("further", k) for k in range(5)]
+    found += [(word, x, alone) for word in ("first", "sure") for x in range(tour.many) for alone in (False, True)]
+    reached = sorted(set(ends.values()))
+    for _ in range(targets):
+        goals = list(draw.choice(reached))
+        found.append(("reach", tuple(min(20, x) for x in goals)))
+        for step in draw.choice([(1,), (-1, 1), (2, -2), (-1,)]):
+            at = draw.randrange(tour.many)
+            goals[at] = max(0, min(20, goals[at] + step))
+        found.append(("reach", tuple(goals)))
+    return found + [("reach", tuple(draw.randint(0, 20) for _ in range(tour.many)))]
+
+
+def slow_edit(tour, name, *args):
+    """The tour behind an edit of a desk with integers, or the error class and what the error keeps."""
+    many, barred, stays, rounds = tour.many, tour.barred, tour.stays, tour.rounds
+    still_open = len(slow_open_games(tour))
+    r = len(rounds)
+    if name == "pair":
+        pairs, = args
+        good = list(pairs) == sorted(set(pairs) & set(slow_may_meet(tour))) and apart(pairs)
+        if not good or r == 8 or still_open + len(pairs) > 7:
+            return InvalidRound, pairs
+        rounds = rounds + (tuple((a, b, -1) for a, b in pairs),)
+    elif name == "score":
+        at, a, b, won = args
+        if at not in range(r):
+            return InvalidNumber, at
+        old = [game for game in rounds[at] if game[:2] == (a, b)]
+        if not old:
+            return InvalidPairs, (a, b)
+        if won not in (-1, 0, 1, 2) or (won == -1 and still_open == 7 and old[0][2] != -1):
+            return InvalidNumber, won
+        rounds = in_place(rounds, at, in_place(rounds[at], rounds[at].index(old[0]), (a, b, won)))
+    elif name == "cancel":
+        if r == 0:
+            return Undefined, "rounds"
+        rounds = rounds[:-1]
+    elif name == "enter":
+        if many == 6:
+            return Undefined, "room"
+        if args[0] not in range(r, 13):
+            return InvalidNumber, args[0]
+        many, stays = many + 1, stays + ((r, args[0]),)
+    elif name == "withdraw":
+        if args[0] not in range(many):
+            return InvalidPlayer, args[0]
+        first, last = stays[args[0]]
+        stays = in_place(stays, args[0], (first if first < r else r, last if last < r else r))
+    elif name == "part":
+        games = [game[:2] for game in chain(*rounds)]
+        if args not in combinations(range(many), 2) or args in barred or args in games:
+            return InvalidPairs, args
+        barred = tuple(sorted({*barred, args}))
+    else:
+        if args not in barred:
+            return InvalidPairs, args
+        barred = tuple(pair for pair in barred if pair != args)
+    return Tour(many, tour.bye, barred, stays, rounds)
 
 
 def small_tuples(parts, longest):

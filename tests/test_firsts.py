@@ -291,7 +291,8 @@ class RanksTest(FirstsCase):
 class ArgumentsTest(FirstsCase):
     def test_wrong_players(self):
         for tour in (tour_of(1), tour_of(3), tour_of(6, SEVEN), tour_of(3, (((0, 1, 2),),))):
-            wrong = [-1, tour.many, tour.many + 1, 10 ** 11, True, False, None, "", "0", (), (0,), [], [0], tour, (0, 1)]
+            wrong = [-1, tour.many, tour.many + 1, 10 ** 11, True, False, None, "", "0", (), (0,), [], [0], tour,
+                     (0, 1)]
             for value in wrong + [value for value in any_values() if type(value) is not int]:
                 for call in (first_outcomes, passing, sure_first, other_outcomes):
                     for alone in BOTH:

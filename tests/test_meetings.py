@@ -8,7 +8,7 @@ from roundsettle.meetings import crowd, crowd_holds, is_meeting, meeting, rounds
 from roundsettle.pairing import may_meet
 from roundsettle.tours import Tour
 from tests.helper import (
-    OwnInt, Two, any_values, apart, drawn_tours, in_place, is_plain, later, slow_is_crowd,
+    OwnInt, Two, any_values, drawn_tours, in_place, is_plain, later, slow_is_crowd, slow_is_meeting,
     slow_may_meet, slow_rounds_to_meet, subsets, tour_of, tours_with_open,
 )
 
@@ -25,15 +25,6 @@ def free(many, *pairs):
     """A tour in which just these pairs may meet."""
     barred = tuple(pair for pair in combinations(range(many), 2) if pair not in pairs)
     return tour_of(many, barred=barred)
-
-
-def slow_is_meeting(tour, value):
-    """Whether value, a tuple of tuples of pairs of integers, is a meeting."""
-    pairs = [pair for games in value for pair in games]
-    return (
-        all(games and list(games) == sorted(set(games)) and apart(games) for games in value)
-        and len(pairs) == len(set(pairs)) and set(pairs) == set(slow_may_meet(tour))
-    )
 
 
 def tours_to_look_at():

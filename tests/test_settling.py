@@ -227,7 +227,8 @@ class TableTest(SettlingCase):
             values = [list(found), tuple(map(list, found))]
             for at, (one, told) in enumerate(found[:12]):
                 values += [in_place(found, at, row) for row in ([one, told], (list(one), told), (one, [told]))]
-                values += [in_place(found, at, row) for row in ((one, None), (one, str(told)), (one, (told,)), (None, told))]
+                values += [in_place(found, at, row) for row in ((one, None), (one, str(told)), (one, (told,)),
+                                                                (None, told))]
                 if told < 2:
                     values.append(in_place(found, at, (one, bool(told))))
                 for place, (a, b) in enumerate(one):
