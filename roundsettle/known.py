@@ -30,7 +30,7 @@ def is_known(many, value):
 
 def orders_of(many, pairs):
     """All orders of so many players that have the better one of each pair ahead."""
-    told = sorted(set(pairs))
+    told = sorted(set(plain(pairs)))
     found = list(permutations(range(many)))
     return [order for order in found if all([order.index(a) < order.index(b) for a, b in told])]
 
